@@ -76,15 +76,15 @@ func spansOf(box []api.Range) ([]value.Span, api.Errno) {
 			}
 		}
 	}
-	spans := make([]value.Span, len(box))
+	list := make([]value.Span, len(box))
 	for i, r := range box {
 		s, e := value.SpanOf(r)
 		if e != api.OK {
 			return nil, e
 		}
-		spans[i] = s
+		list[i] = s
 	}
-	return spans, api.OK
+	return list, api.OK
 }
 
 // ranges are the texts of a box.

@@ -159,8 +159,7 @@ func combine(row, by []value.Num, pivot, last value.Num) {
 	}
 }
 
-// whole returns a multiple of a row, and what it is multiplied by, so that its numbers are integers, as far as their
-// denominators are short enough to be read. (With others the results are the same, and come more slowly.)
+// whole returns a multiple of a row whose numbers are integers, and what the row is multiplied by.
 func whole(row []value.Num) ([]value.Num, value.Num) {
 	unit := value.Int(1)
 	for _, x := range row {
@@ -173,15 +172,25 @@ func whole(row []value.Num) ([]value.Num, value.Num) {
 	return multiple, unit
 }
 
-// denominator returns that of x, which package value tells in its text alone; 1, if it has more than MaxDigits digits.
+// denominator returns that of x, which package value tells in its text alone.
 func denominator(x value.Num) value.Num {
 	if value.Cmp(x, value.Floor(x)) == 0 {
 		return value.Int(1)
 	}
 	_, digits, _ := strings.Cut(string(value.Text(x)), "/")
-	bottom, e := value.Parse(api.Val(digits))
-	if e != api.OK {
-		return value.Int(1)
+	return integer(digits)
+}
+
+// integer returns the number with these digits, of which there may be more than a Val has: so they are read in rows.
+func integer(digits string) value.Num {
+	const row = api.MaxRead - 1
+	unit, _ := value.Read("1" + strings.Repeat("0", row))
+	var sum value.Num
+	for digits != "" {
+		next := (len(digits)-1)%row + 1
+		part, _ := value.Read(digits[:next])
+		sum = value.Add(value.Mul(sum, unit), part)
+		digits = digits[next:]
 	}
-	return bottom
+	return sum
 }

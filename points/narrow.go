@@ -5,12 +5,13 @@ import (
 	"pentode/value"
 )
 
-// tooFar is how many digits ends of a box may have on the way.
+// tooFar is how many digits the ends of a box may have on the way.
 //
-// Ends with more than MaxDigits digits are very close to 0, as they have few bits. They may have twice as many digits after each
-// round, and come from both sides to an operating point at 0 without ever reaching it: so, when there are
-// that many more, nothing but ErrLong can be the result, and 60 rounds would need more memory than there is.
-const tooFar = 100 * api.MaxDigits
+// An end has few bits, or is one of the box that was asked for: with more than MaxDigits digits it is very close to 0. It may be
+// short again in a later round, but only if there is a break of a curve on the way to 0, and all of these have at most MaxDigits
+// digits. Without one it may get twice as many digits in each round, so that 60 rounds would need more memory than there
+// is: with so many digits that it is beyond all breaks, the result is known to be ErrLong.
+const tooFar = 10 * api.MaxDigits
 
 // Narrow returns a smaller box with the same operating points.
 func Narrow(n api.Net, box []api.Range, bits, rounds int) ([]api.Range, api.Errno) {
