@@ -45,7 +45,7 @@ func (j *judge) tree(x []pair) api.Errno {
 	if !wellFormed(it, x) {
 		return points.ErrItem
 	}
-	if !j.true(it, x) {
+	if !j.holds(it, x) {
 		return points.ErrFault
 	}
 	j.at++
@@ -112,8 +112,8 @@ func wellFormed(it api.PtItem, x []pair) bool {
 	return true
 }
 
-// true reports whether an item proves what it has to.
-func (j *judge) true(it api.PtItem, x []pair) bool {
+// holds reports whether an item proves what it has to.
+func (j *judge) holds(it api.PtItem, x []pair) bool {
 	switch it.Kind {
 	case api.PtSplit:
 		return true

@@ -187,6 +187,18 @@ func TestP4_5Split(t *testing.T) {
 	}
 }
 
+// In the slopes from 1 to 7 a box shrinks to exactly 3/4 of it, and not in those from 1 to 8.
+func TestP4_5Shrink(t *testing.T) {
+	shrink := by(api.PtShrink, "0", "1/4", "-2 4")
+	if q := derived(t, device(t, "-4 1 | 0 | -4 7"), "-4 4", 8, 20); fmt.Sprint(q.Items[0]) != fmt.Sprint(shrink) {
+		t.Errorf("Derive begins with %v", q.Items[0])
+	}
+	split := api.PtItem{Kind: api.PtSplit, At: "-1/8"}
+	if q := derived(t, device(t, "-4 1 | 0 | -4 8"), "-4 4", 8, 20); fmt.Sprint(q.Items[0]) != fmt.Sprint(split) {
+		t.Errorf("Derive begins with %v", q.Items[0])
+	}
+}
+
 // The unknown that is split is the one whose width is the greatest part of what it was, the first one of several.
 func TestP4_5Widest(t *testing.T) {
 	n := read(t, "model k curve -2 0 1", "d d1 1 0 k", "d d2 2 0 k")
@@ -221,6 +233,9 @@ func TestP4_5Errors(t *testing.T) {
 			t.Errorf("Derive over %s with %d, %d = %v, %d", c.box, c.bits, c.items, q, e)
 		}
 	}
+	if q, e := points.Derive(api.Net{}, nil, api.PtPlan{Bits: 8, Items: 1}); fmt.Sprint(q) != fmt.Sprint(proofOf(api.PtItem{Kind: api.PtOne})) || e != api.OK {
+		t.Errorf("Derive of no unknowns = %v, %d", q, e)
+	}
 	// Exactly as many items as there are: one fewer is not enough.
 	w := device(t, "-2 0 1")
 	count := len(derived(t, w, "-4 4", 8, 400).Items)
@@ -247,11 +262,12 @@ func TestP4_5Long(t *testing.T) {
 		"Mid":       {string(value.Text(value.Neg(lo))) + " 1", box, api.ErrLong},
 		"At":        {"0", box, api.ErrLong},
 		"Inv":       {"-1 " + far, "-1 1", api.ErrLong},
-		"Box":       {"-1/" + far + " 1", "1/" + far + " 1", api.ErrLong},
+		"Box.Hi":    {"-1/" + far + " 1", "1/" + far + " 1", api.ErrLong},
+		"Box.Lo":    {"1/" + far + " 1", "-1 -1/" + far, api.ErrLong},
 		"no number": {"-1/" + far + " 1", "-1/" + far + " 1", api.OK},
 	} {
 		n := device(t, c.curve)
-		plan := api.PtPlan{Bits: 8, Items: 30}
+		plan := api.PtPlan{Bits: 8, Items: 1} // it is the first item that ends it
 		want, wantE := derive(n, ranges(c.box), plan)
 		q, e := points.Derive(n, ranges(c.box), plan)
 		if e != c.want || e != wantE || fmt.Sprint(q) != fmt.Sprint(want) {

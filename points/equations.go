@@ -44,8 +44,8 @@ func current[T any](p part, a arithmetic[T], at []T) T {
 	case api.ElD:
 		return a.curve(p.curve, a.sub(at[p.a], at[p.b]))
 	case api.ElM:
-		ahead, back := gates(p, a, at)
-		return a.scale(value.Mul(p.val, half()), a.sub(a.square(ahead), a.square(back)))
+		source, drain := gates(p, a, at)
+		return a.scale(value.Mul(p.val, half()), a.sub(a.square(source), a.square(drain)))
 	case api.ElL, api.ElV, api.ElE, api.ElH:
 		return at[p.own]
 	}

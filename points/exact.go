@@ -8,8 +8,8 @@ import (
 	"pentode/value"
 )
 
-// linear is how many coefficients the pieces of a piecewise linear curve have at most.
-const linear = 2
+// linearPowers is how many coefficients the pieces of a piecewise linear curve have at most.
+const linearPowers = 2
 
 // Exact returns all operating points of a piecewise linear net.
 func Exact(n api.Net) ([][]value.Num, api.Errno) {
@@ -45,8 +45,8 @@ func Exact(n api.Net) ([][]value.Num, api.Errno) {
 
 // isLinear returns whether the current of an element is piecewise linear.
 func (p part) isLinear() bool {
-	isLong := func(piece []value.Num) bool { return len(piece) > linear }
-	return p.kind != api.ElM && (p.kind != api.ElD || !slices.ContainsFunc(p.curve.pieces, isLong))
+	isCurved := func(piece []value.Num) bool { return len(piece) > linearPowers }
+	return p.kind != api.ElM && (p.kind != api.ElD || !slices.ContainsFunc(p.curve.pieces, isCurved))
 }
 
 // isMore returns whether the product of some numbers, all at least 1, is above a limit.

@@ -11,6 +11,12 @@ import (
 
 // The tests of this file are the lines of the chapter's table of examples.
 
+func TestErrorNumbers(t *testing.T) {
+	if got := [...]api.Errno{points.ErrTree, points.ErrItem, points.ErrFault, points.ErrMore, points.ErrEdge}; got != [...]api.Errno{140, 141, 142, 143, 144} {
+		t.Errorf("the errors are %v", got)
+	}
+}
+
 func TestExamplesOfEquations(t *testing.T) {
 	w := tunnel(t)
 	if k, e := points.Size(w); k != 3 || e != api.OK {

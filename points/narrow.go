@@ -36,8 +36,8 @@ func Narrow(n api.Net, box []api.Range, bits, rounds int) ([]api.Range, api.Errn
 			return nil, ErrFault
 		}
 		b := outward(meet, x, bits)
-		if sameBox(x, b) {
-			break
+		if contains(b, x) {
+			break // both are equal
 		}
 		x = b
 		if isFar(x) {
@@ -48,11 +48,6 @@ func Narrow(n api.Net, box []api.Range, bits, rounds int) ([]api.Range, api.Errn
 		return nil, api.ErrLong
 	}
 	return ranges(x), api.OK
-}
-
-// sameBox returns whether two boxes are equal.
-func sameBox(x, b []value.Span) bool {
-	return contains(x, b) && contains(b, x)
 }
 
 // isFar returns whether an end of a box has too many digits.

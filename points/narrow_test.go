@@ -67,6 +67,8 @@ func TestP4_6Narrow(t *testing.T) {
 		// the root is 10^-999: its neighbours of few bits have too many digits
 		{"-" + tiny + " 1", "0 1", 8, 60, "", api.ErrLong},
 		{"-" + tiny + " 1", "0 1", 8, 0, "0 1", api.OK},
+		{"-" + tiny + " 1", tiny + " 1", 8, 60, "", api.ErrLong},
+		{tiny + " 1", "-1 -" + tiny, 8, 60, "", api.ErrLong},
 		{"-" + tiny + " 1", tiny + " " + tiny, 8, 60, tiny + " " + tiny, api.OK},
 	} {
 		n := device(t, c.curve)
@@ -104,7 +106,19 @@ func TestP4_6TooFar(t *testing.T) {
 			}
 		}
 	}
-	// Breaks close to 0 end this.
+	// Between breaks at 2^-2100 there is a line through 0: so ends that were too long by then are short again.
+	power, _ := value.Pow(value.Int(2), 50)
+	near, _ := value.Pow(power, -42)
+	at, one := string(value.Text(near)), value.Int(1)
+	left, right := string(value.Text(value.Add(one, near))), string(value.Text(value.Sub(one, near)))
+	w := device(t, "0 "+left+" 1 | -"+at+" | 0 1 | "+at+" | 0 "+right+" 1")
+	for rounds, want := range map[int]string{12: "", 13: "0 0", 60: "0 0"} {
+		l, e := points.Narrow(w, ranges("-1/4 1/4"), 8, rounds)
+		if showRanges(l) != want || (e == api.ErrLong) != (want == "") {
+			t.Errorf("Narrow with %d rounds = %.80s, %d", rounds, showRanges(l), e)
+		}
+	}
+	// Breaks that are not that close end this sooner.
 	n := device(t, "0 1 1 | -1/1024 | 0 1023/1024 | 1/1024 | -1/524288 1 1")
 	for rounds := range 20 {
 		want, wantE := narrow(n, ranges("-1/4 1/4"), 8, rounds)

@@ -16,10 +16,7 @@ func Small(n api.Net, x []value.Num) (api.Net, api.Errno) {
 	}
 	small := api.Net{Nodes: n.Nodes}
 	var more []api.Elem
-	at := make([]value.Span, 1, c.size+1)
-	for _, v := range x {
-		at = append(at, value.Point(v))
-	}
+	at := append(make([]value.Num, 1, c.size+1), x...)
 	for i, p := range c.parts {
 		elems, e := p.small(n.Elems[i], at)
 		if e != api.OK {
@@ -36,12 +33,12 @@ func Small(n api.Net, x []value.Num) (api.Net, api.Errno) {
 }
 
 // small returns the elements for one of the net: the first one stands in its place, others are appended.
-func (p part) small(e api.Elem, at []value.Span) ([]api.Elem, api.Errno) {
+func (p part) small(e api.Elem, at []value.Num) ([]api.Elem, api.Errno) {
 	switch e.Kind {
 	case api.ElV, api.ElI:
 		e.Val = "0"
 	case api.ElD, api.ElQ:
-		slope := p.curve.slope(value.SpanSub(at[p.a], at[p.b]))
+		slope := p.curve.slope(value.Point(value.Sub(at[p.a], at[p.b])))
 		switch {
 		case value.Cmp(slope.Lo, slope.Hi) != 0:
 			return nil, ErrEdge
@@ -55,8 +52,8 @@ func (p part) small(e api.Elem, at []value.Span) ([]api.Elem, api.Errno) {
 			e = source(e.A, e.B, e.A, e.B, slope.Lo)
 		}
 	case api.ElM:
-		ahead, back := gates(p, spans{}, at)
-		byGate, byDrain := value.Mul(p.val, value.Sub(ahead.Lo, back.Lo)), value.Mul(p.val, back.Lo)
+		atSource, atDrain := gates(p, numbers{}, at)
+		byGate, byDrain := value.Mul(p.val, value.Sub(atSource, atDrain)), value.Mul(p.val, atDrain)
 		if isLong(byGate) || isLong(byDrain) {
 			return nil, api.ErrLong
 		}
